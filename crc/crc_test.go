@@ -268,18 +268,19 @@ func TestBurstLimits(t *testing.T) {
 		}
 		for _, n := range []int{-1, -8, -4096, math.MinInt32, math.MinInt, math.MinInt + 1, 4097, 4098, 8192, math.MaxInt32, math.MaxInt/8 + 1, math.MaxInt} {
 			burst(t, n, at, math.MaxUint32, nil)
-			burst(t, n, -1, math.MaxUint32, nil)
+			burst(t, n, -1-at, math.MaxUint32, nil)
 		}
 	}
 }
 
-// P5.2, P6: a place below 0 is none, and there are no bytes; one beyond the end is one, and no bit is set.
+// P5.2, P6: a place below 0, or beyond the end, is no bit of the bytes: there are n of them, and no bit is set.
 func TestBurstPlaces(t *testing.T) {
-	for _, at := range []int{-1, -2, -7, -8, -31, -32, -33, math.MinInt32, math.MinInt, math.MinInt + 31} {
-		burst(t, 5, at, math.MaxUint32, nil)
-		burst(t, 5, at, 0, nil)
-		burst(t, 0, at, 1, nil)
-		burst(t, 4096, at, 1, nil)
+	for _, at := range []int{-1, -2, -7, -8, -9, -31, -32, -33, -40, math.MinInt32, math.MinInt, math.MinInt + 31} {
+		for _, n := range []int{0, 1, 2, 4, 5, 4095, 4096} {
+			for _, bits := range []uint32{0, 1, 1 << 31, 0x96C3A55A, math.MaxUint32} {
+				burst(t, n, at, bits, make([]byte, n))
+			}
+		}
 	}
 	for _, at := range []int{40, 41, 71, 72, 1000, math.MaxInt32, math.MaxInt - 32, math.MaxInt - 31, math.MaxInt - 1, math.MaxInt} {
 		burst(t, 5, at, math.MaxUint32, make([]byte, 5))
@@ -479,6 +480,9 @@ func FuzzAll(f *testing.F) {
 		good := Fix(b)
 		if !Good(good) || !bytes.Equal(good[:len(b)], b) {
 			t.Errorf("Fix(%x) = %x", b, good)
+		}
+		if at < 0 && len(b) <= 4096 {
+			burst(t, len(b), at, poly, make([]byte, len(b)))
 		}
 		if at < 0 || at >= 8*len(good) {
 			return
