@@ -223,8 +223,8 @@ func TestExample(t *testing.T) {
 	takes(t, ping())
 }
 
-// P9.1, P9.2: frames of each kind, their bytes and sums told by hand.
-func TestByHand(t *testing.T) {
+// P9.1, P9.2: frames of each kind, their bytes and sums written out: worked out apart from this program.
+func TestWrittenOut(t *testing.T) {
 	none := api.Frame{Kind: api.FData, Key: make([]byte, 16), Tag: text(8, 0xA1)}
 	for _, c := range []struct {
 		f    api.Frame
