@@ -84,8 +84,11 @@ func wordWhen(c api.Config, slot int, start int, i int) (int64, api.Errno) {
 	return slots * int64(c.Slot), api.OK
 }
 
-// wordSecret is Secret by the chapter's words.
+// wordSecret is Secret by the chapter's words, those at its head first.
 func wordSecret(c api.Config, slot int, start int, round int, most int64) api.Errno {
+	if !isRight(c) || !isNumber(start) || !isNumber(round) || slot < 0 || slot >= c.N {
+		return api.ErrArg
+	}
 	i, e := wordIndex(c, start, round)
 	if e != api.OK {
 		return e
@@ -407,7 +410,9 @@ func TestSlotEdges(t *testing.T) {
 				when(t, c, slot, 9, i)
 			}
 			for _, at := range []int64{-1, 0, 1, 50000, 1000000, end40 - 1, end40, end40 + 1} {
-				secret(t, c, slot, 9, 10, at)
+				for _, round := range []int{0, 8, 9, 10, 9 + c.Keys, 10 + c.Keys, rounds20 - 1} {
+					secret(t, c, slot, 9, round, at)
+				}
 				known(t, c, slot, 9, at)
 			}
 		}
@@ -486,7 +491,32 @@ func TestLastRound(t *testing.T) {
 	}
 }
 
-// P17.2, P2: where two errors would come, the one that Secret names first: Index's, most's, When's, that it is late.
+// P17.1, P2: a slot that is no node is named ahead of a round that has no key, wherever that round is and whatever most is; at one that is a node there is just no key.
+func TestSecretSlotFirst(t *testing.T) {
+	for _, c := range sizes() {
+		for _, start := range []int{0, 3, 4097, rounds20 - 2, rounds20 - 1} {
+			for _, round := range []int{0, start - 1, start, start + c.Keys + 1, start + c.Keys + c.Delay + 1, rounds20 - 1} {
+				if round < 0 || round >= rounds20 || round > start && round <= start+c.Keys {
+					continue
+				}
+				for _, most := range []int64{math.MinInt64, -1, 0, 8800, end40, end40 + 1, math.MaxInt64} {
+					for _, slot := range []int{math.MinInt, math.MinInt32, -c.N, -1, c.N, c.N + 1, 1 << 32, math.MaxInt} {
+						if e := Secret(c, slot, start, round, most); e != api.ErrArg {
+							t.Fatalf("Secret(%+v, %d, %d, %d, %d) = %v", c, slot, start, round, most, e)
+						}
+					}
+					for slot := range c.N {
+						if e := Secret(c, slot, start, round, most); e != api.ErrNone {
+							t.Fatalf("Secret(%+v, %d, %d, %d, %d) = %v", c, slot, start, round, most, e)
+						}
+					}
+				}
+			}
+		}
+	}
+}
+
+// P17.1, P17.2, P2: where two errors would come, the one that is named first: the chapter's own of config, rounds and slot, then Secret's: Index's, most's, When's, that it is late.
 func TestSecretOrder(t *testing.T) {
 	c := api.Config{N: 3, Slot: 400, Delay: 2, Keys: 16, E: 400, Window: 400, Rho: 1, Slew: 2, Cap: 8}
 	wrong := c
@@ -508,9 +538,9 @@ func TestSecretOrder(t *testing.T) {
 		{"round of MaxRounds ahead of none", c, 1, 3, rounds20, 0, api.ErrArg, api.ErrNone},
 		{"none ahead of most below 0", c, 1, 3, 3, -1, api.ErrNone, api.ErrArg},
 		{"none ahead of most above MaxTime", c, 1, 3, 20, end40 + 1, api.ErrNone, api.ErrArg},
-		{"none ahead of the slot", c, 3, 3, 3, 0, api.ErrNone, api.ErrArg},
-		{"none ahead of a slot below 0", c, -1, 3, 20, 0, api.ErrNone, api.ErrArg},
-		{"none ahead of most and slot", c, 3, 3, 2, -1, api.ErrNone, api.ErrArg},
+		{"slot ahead of none", c, 3, 3, 3, 0, api.ErrArg, api.ErrNone},
+		{"slot below 0 ahead of none", c, -1, 3, 20, 0, api.ErrArg, api.ErrNone},
+		{"slot ahead of none and most", c, 3, 3, 2, -1, api.ErrArg, api.ErrNone},
 		{"none ahead of late", c, 1, 3, 20, end40, api.ErrNone, api.ErrLate},
 		{"none ahead of no When", c, 1, late, late, 0, api.ErrNone, api.ErrArg},
 		{"most ahead of late", c, 1, 3, 5, end40 + 1, api.ErrArg, api.ErrLate},
